@@ -1,0 +1,1 @@
+"""Cloak: passes that tell nothing else."""

@@ -1,0 +1,52 @@
+"""What the tests calculate for themselves, in the plainest way."""
+
+from itertools import product as all_lists
+
+ORDERS = [11, 23, 29, 41, 53, 83, 89, 113, 131, 173, 179, 191, 233, 239, 251, 281,
+          293, 359, 419, 431, 443, 491, 509, 593, 641, 653, 659, 683, 719, 743,
+          761, 809, 911, 953, 1013]
+
+
+def squares(q):
+    """The elements of q, ascending: all squares modulo p."""
+    p = 2 * q + 1
+    return sorted({x * x % p for x in range(1, p)})
+
+
+def multiplied(q, base, times):
+    """The product of so many factors, all of them the base."""
+    result = 1
+    for _ in range(times):
+        result = result * base % (2 * q + 1)
+    return result
+
+
+def multiplied_all(q, bases, exponents):
+    """The product of all bases[i] ** exponents[i], one factor after another."""
+    result = 1
+    for base, exponent in zip(bases, exponents):
+        result = result * multiplied(q, base, exponent) % (2 * q + 1)
+    return result
+
+
+def exponent_lists(q, length):
+    """All lists of so many exponents."""
+    return [list(exponents) for exponents in all_lists(range(q), repeat=length)]
+
+
+def hand_coin(seed, n, text):
+    """The coin, written down from the rule once more."""
+    m = 2 ** 31 - 1
+    h = (seed * 31 + n * 1009 + 11) % m
+    for character in text:
+        h = (h * 263 + ord(character) + 1) % m
+    for _ in "123":
+        h = (h * 48271 + 12345) % m
+    return (h // 1000) % 10 ** 6
+
+
+def changed(values, at, value):
+    """A tuple or list with another value at one place."""
+    other = list(values)
+    other[at] = value
+    return type(values)(other)
