@@ -4,7 +4,7 @@ from cloak.coins import coin
 from cloak.errors import NotAllowed
 from cloak.groups import (
     GREATEST_ORDER, LEAST_ORDER, check_order, check_setup, inverse, is_element,
-    is_exponent, logarithm, power, product, product_of_powers, quotient, setup_of,
+    is_exponent, is_prime, logarithm, power, product, product_of_powers, quotient, setup_of,
 )
 from helpers import ORDERS, changed, exponent_lists, multiplied, multiplied_all, squares
 
@@ -37,6 +37,11 @@ class OrderTest(unittest.TestCase):
         def prime(n):
             return n > 1 and all(n % k for k in range(2, n))
         self.assertEqual(ORDERS, [q for q in range(11, 1014) if prime(q) and prime(2 * q + 1)])
+
+    def test_prime_numbers_and_squares_of_such(self):
+        self.assertEqual([n for n in range(-5, 60) if is_prime(n)],
+                         [2, 3, 5, 7, 11, 13, 17, 19, 23, 29, 31, 37, 41, 43, 47, 53, 59])
+        self.assertEqual([is_prime(n) for n in (121, 2021, 2027, 1849)], [False, False, True, False])
 
     def test_integers_that_are_no_orders(self):
         # 2, 3, 5 are too small, 1019 and 1031 too great; 13 and 17 are prime

@@ -11,10 +11,24 @@ FUNCTIONS = {
                "product(q, first, second)", "product_of_powers(q, bases, exponents)",
                "inverse(q, value)", "logarithm(q, base, value)", "quotient(q, first, second)",
                "setup_of(q, seed)", "check_setup(setup)"],
+    "linear": ["rank(q, rows)", "solutions(q, unknowns, rows, right)",
+               "count_solutions(q, unknowns, rows, right)"],
+    "claims": ["check_claim(q, claim)", "are_values(q, claim, values)", "holds(q, claim, values)",
+               "claim_numbers(claim)", "traces(q, claim, c, answers)",
+               "known_values(q, claim, first, second)"],
+    "choices": ["check_choice(q, choice)", "choice_numbers(choice)",
+                "make_paper(q, text, choice, index, values, noise)",
+                "check_paper(q, text, choice, paper)",
+                "explain_paper(q, text, choice, paper, index, values)"],
+    "commitments": ["commit(setup, value, blind)", "blind_of(setup, commitment, value)",
+                    "claim_of(setup, commitment)", "value_claim(setup, commitment, value)",
+                    "value_choice(setup, commitment, values)"],
 }
 
 CONSTANTS = {
     "groups": {"LEAST_ORDER": 11, "GREATEST_ORDER": 1013},
+    "claims": {"MAX_UNKNOWNS": 8, "MAX_EQUATIONS": 6},
+    "choices": {"MAX_CLAIMS": 25},
 }
 
 
