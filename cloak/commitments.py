@@ -2,7 +2,9 @@
 
 from cloak.choices import MAX_CLAIMS
 from cloak.errors import NotAllowed
-from cloak.groups import check_element, is_exponent, logarithm, power, product, product_of_powers
+from cloak.groups import (
+    check_element, check_exponent, logarithm, power, product, product_of_powers,
+)
 
 
 def commit(setup, value, blind):
@@ -37,12 +39,6 @@ def value_choice(setup, commitment, values):
     if len(values) < 1 or len(values) > MAX_CLAIMS:
         raise NotAllowed("there are from 1 to 25 values")
     return tuple([value_claim(setup, commitment, value) for value in values])
-
-
-def check_exponent(q, value):
-    """Raise NotAllowed if the integer is not one from 0 to q - 1."""
-    if not is_exponent(q, value):
-        raise NotAllowed("this is not an exponent from 0 to q - 1")
 
 
 def blinding_part(setup, commitment, value):

@@ -38,6 +38,12 @@ def is_exponent(q, value):
     return 0 <= value < q
 
 
+def check_exponent(q, value):
+    """Raise NotAllowed if the integer is not one from 0 to q - 1."""
+    if not is_exponent(q, value):
+        raise NotAllowed("this is not an exponent from 0 to q - 1")
+
+
 def is_element(q, value):
     """True if the integer is an element, otherwise False."""
     p = 2 * q + 1

@@ -23,6 +23,16 @@ FUNCTIONS = {
     "commitments": ["commit(setup, value, blind)", "blind_of(setup, commitment, value)",
                     "claim_of(setup, commitment)", "value_claim(setup, commitment, value)",
                     "value_choice(setup, commitment, values)"],
+    "passes": ["check_person(setup, person)", "mark_of(setup, person)"],
+    "issuing": ["key_of(setup, secret)", "offer_of(setup, secret, person, w)",
+                "request_of(setup, person, offer, blinding)", "grant_of(setup, secret, w, c)",
+                "ticket_of(setup, key, person, offer, blinding, r)"],
+    "tickets": ["inner_challenge(setup, ticket)", "is_ticket(setup, key, ticket)",
+                "ticket_text(ticket)", "read_ticket(text)",
+                "explain_ticket(setup, key, record, ticket, spend)"],
+    "spends": ["spend_of(setup, person, blinding, d)", "is_spend(setup, ticket, spend)",
+               "exposed(setup, ticket, first, second)",
+               "is_exposure(setup, ticket, first, second, numbers)"],
 }
 
 CONSTANTS = {
