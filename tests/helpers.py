@@ -50,3 +50,27 @@ def changed(values, at, value):
     other = list(values)
     other[at] = value
     return type(values)(other)
+
+
+def hand_call(q, text, choice, pairs):
+    """The call, by the rule and by multiplying; traces are found by trying."""
+    p = 2 * q + 1
+    numbers = [len(choice)]
+    for count, equations in choice:
+        numbers += [count, len(equations)]
+        for y, bases in equations:
+            numbers += [y, *bases]
+    for (count, equations), (c, answers) in zip(choice, pairs):
+        for y, bases in equations:
+            factor, goal = multiplied(q, y, c), multiplied_all(q, bases, answers)
+            numbers += [t for t in range(1, p) if (t * factor - goal) % p == 0]
+    joined = "paper " + text + "".join(" " + str(number) for number in numbers)
+    return 1 + hand_coin(0, q, joined) % (q - 1)
+
+
+def hand_paper(q, text, choice, index, values, noise):
+    """The paper, by the rule."""
+    others = sum(c for k, (c, _) in enumerate(noise) if k != index)
+    c = (hand_call(q, text, choice, noise) - others) % q
+    answers = tuple((a + c * x) % q for a, x in zip(noise[index][1], values))
+    return changed(noise, index, (c, answers))

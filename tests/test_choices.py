@@ -5,7 +5,7 @@ from cloak.choices import (
 )
 from cloak.claims import holds
 from cloak.errors import BadForm, BadPaper, CloakError, NotAllowed
-from helpers import changed, exponent_lists, hand_coin, multiplied, multiplied_all
+from helpers import changed, exponent_lists, hand_call, hand_coin, hand_paper, multiplied_all
 
 ENDLESS = 10 ** 5000
 OUT_OF_RANGE = (-1, 11, 12, -11, 10 ** 40, ENDLESS, -ENDLESS)
@@ -39,30 +39,6 @@ def all_noises(q, choice, index):
             c = 0 if k == index else rest.pop(0)
             noise.append((c, tuple(rest.pop(0) for _ in range(claim[0]))))
         yield tuple(noise)
-
-
-def hand_call(q, text, choice, pairs):
-    """The call, by the rule and by multiplying; traces are found by trying."""
-    p = 2 * q + 1
-    numbers = [len(choice)]
-    for count, equations in choice:
-        numbers += [count, len(equations)]
-        for y, bases in equations:
-            numbers += [y, *bases]
-    for (count, equations), (c, answers) in zip(choice, pairs):
-        for y, bases in equations:
-            numbers += [t for t in range(1, p) if (t * multiplied(q, y, c)
-                                                   - multiplied_all(q, bases, answers)) % p == 0]
-    joined = "paper " + text + "".join(" " + str(number) for number in numbers)
-    return 1 + hand_coin(0, q, joined) % (q - 1)
-
-
-def hand_paper(q, text, choice, index, values, noise):
-    """The paper, by the rule."""
-    others = sum(c for k, (c, _) in enumerate(noise) if k != index)
-    c = (hand_call(q, text, choice, noise) - others) % q
-    answers = tuple((a + c * x) % q for a, x in zip(noise[index][1], values))
-    return changed(noise, index, (c, answers))
 
 
 def papers_of_the_form(q, choice):

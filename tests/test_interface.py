@@ -33,12 +33,24 @@ FUNCTIONS = {
     "spends": ["spend_of(setup, person, blinding, d)", "is_spend(setup, ticket, spend)",
                "exposed(setup, ticket, first, second)",
                "is_exposure(setup, ticket, first, second, numbers)"],
+    "pairs": ["all_pairs()", "index_of(pair)", "pair_at(index)", "check_set(pairs)",
+              "set_text(pairs)"],
+    "questions": ["read_question(text)", "question_text(tree)", "set_of(tree)",
+                  "are_same(first, second)", "implies(first, second)", "holds(tree, pair)"],
+    "showings": ["check_context(context)", "stage_numbers(context, pairs)",
+                 "stage_challenge(setup, context, pairs)", "choice_of(setup, ticket, pairs)",
+                 "paper_text(context, pairs, ticket, spend)",
+                 "make_showing(setup, person, ticket, blinding, context, pairs, noise)",
+                 "check_showing(setup, key, context, pairs, showing)",
+                 "explain_showing(setup, key, record, context, pairs, showing)"],
 }
 
 CONSTANTS = {
     "groups": {"LEAST_ORDER": 11, "GREATEST_ORDER": 1013},
     "claims": {"MAX_UNKNOWNS": 8, "MAX_EQUATIONS": 6},
     "choices": {"MAX_CLAIMS": 25},
+    "pairs": {"AGES": 5, "ZONES": 5},
+    "questions": {"MAX_QUESTION": 300, "MAX_LEVELS": 20},
 }
 
 
