@@ -1,6 +1,7 @@
 """Pairs of an age and a zone, and sets of them."""
 
 from cloak.errors import NotAllowed
+from cloak.forms import is_rising
 
 AGES = 5
 ZONES = 5
@@ -44,8 +45,7 @@ def pair_at(index):
 
 def check_set(pairs):
     """Raise NotAllowed if the list of tuples of two integers is not a set."""
-    indexes = [index_of(pair) for pair in pairs]
-    if any(after <= before for before, after in zip(indexes, indexes[1:])):
+    if not is_rising([index_of(pair) for pair in pairs]):
         raise NotAllowed("the pairs of a set are different ones, in their order")
 
 

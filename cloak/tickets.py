@@ -2,6 +2,7 @@
 
 from cloak.blindings import challenge_within
 from cloak.errors import BadForm, BadPaper, NotAllowed
+from cloak.forms import is_number
 from cloak.groups import is_element, is_exponent, logarithm, power, product, quotient
 from cloak.issuing import request_of, ticket_of
 from cloak.passes import mark_of
@@ -38,16 +39,9 @@ def ticket_text(ticket):
 def read_ticket(text):
     """The six numbers with this text."""
     words = text.split(" ")
-    if len(words) != _NUMBERS or not all(is_short_number(word) for word in words):
+    if len(words) != _NUMBERS or not all(is_number(word, _MOST_DIGITS) for word in words):
         raise BadForm("a ticket is written as six numbers of 1 to 4 digits")
     return tuple([int(word) for word in words])
-
-
-def is_short_number(word):
-    """True if the word is 1 to 4 decimal digits without a leading zero, otherwise False."""
-    if len(word) > _MOST_DIGITS or not word.isascii() or not word.isdigit():
-        return False
-    return word == "0" or not word.startswith("0")
 
 
 def explain_ticket(setup, key, record, ticket, spend):

@@ -1,5 +1,6 @@
 """What the tests calculate for themselves, in the plainest way."""
 
+import unittest
 from itertools import product as all_lists
 
 ORDERS = [11, 23, 29, 41, 53, 83, 89, 113, 131, 173, 179, 191, 233, 239, 251, 281,
@@ -74,3 +75,12 @@ def hand_paper(q, text, choice, index, values, noise):
     c = (hand_call(q, text, choice, noise) - others) % q
     answers = tuple((a + c * x) % q for a, x in zip(noise[index][1], values))
     return changed(noise, index, (c, answers))
+
+
+class ErrorCase(unittest.TestCase):
+
+    def check_raises(self, error, function, *arguments):
+        """The error itself is raised, and none of a class below it."""
+        with self.assertRaises(error) as raised:
+            function(*arguments)
+        self.assertIs(type(raised.exception), error)

@@ -43,6 +43,30 @@ FUNCTIONS = {
                  "make_showing(setup, person, ticket, blinding, context, pairs, noise)",
                  "check_showing(setup, key, context, pairs, showing)",
                  "explain_showing(setup, key, record, context, pairs, showing)"],
+    "purse": ["load_purse(counter, text)"],
+    "gates": ["load_gate(name, text)"],
+    "crowds": ["check_crowd(crowd)", "is_eligible(crowd, use, member)",
+               "first_assignment(crowd, fixed)", "possible(crowd, use)",
+               "witness(crowd, use, member)", "blocking(crowd, use, member)",
+               "is_blocking(crowd, use, member, uses)"],
+    "ways": ["count_assignments(crowd)", "count_ways(crowd)", "shares(crowd, use)",
+             "told(crowd, further)", "keeps(crowd, own, further, wishes)",
+             "first_reason(crowd, own, further, wishes)",
+             "best_option(crowd, own, options, wishes)"],
+}
+
+# The classes with what they are made of, and the methods that they have.
+CLASSES = {
+    "purse": {
+        "Register()": ["count(self, epoch)", "raise_to(self, epoch, count)", "supply(self, raises)"],
+        "Purse(counter)": ["put(self, epoch, ticket, blinding)", "take(self, epoch)",
+                           "left(self, epoch)", "size(self)", "image(self)"],
+    },
+    "gates": {
+        "Gate(name)": ["name(self)", "moment(self)", "enter(self, setup, key, epoch, pairs, showing)",
+                       "merge(self, other)", "log(self)", "exposures(self, setup)", "uses(self, epoch)",
+                       "image(self)"],
+    },
 }
 
 CONSTANTS = {
@@ -51,6 +75,8 @@ CONSTANTS = {
     "choices": {"MAX_CLAIMS": 25},
     "pairs": {"AGES": 5, "ZONES": 5},
     "questions": {"MAX_QUESTION": 300, "MAX_LEVELS": 20},
+    "purse": {"EPOCHS": 3, "MAX_HELD": 12},
+    "crowds": {"MAX_MEMBERS": 10, "MAX_USES": 8, "MAX_TICKETS": 6, "EPOCHS": 3},
 }
 
 
@@ -64,6 +90,19 @@ class InterfaceTest(unittest.TestCase):
                 self.assertTrue(inspect.isfunction(function), signature)
                 self.assertEqual(function.__module__, module.__name__, signature)
                 self.assertEqual(function.__name__ + str(inspect.signature(function)), signature)
+
+    def test_classes_are_defined_in_their_file_with_all_their_methods(self):
+        for module_name, classes in CLASSES.items():
+            module = importlib.import_module("cloak." + module_name)
+            for made_of, signatures in classes.items():
+                own = getattr(module, made_of.partition("(")[0])
+                self.assertTrue(inspect.isclass(own), made_of)
+                self.assertEqual(own.__module__, module.__name__, made_of)
+                self.assertEqual(own.__name__ + str(inspect.signature(own)), made_of)
+                for signature in signatures:
+                    method = vars(own)[signature.partition("(")[0]]
+                    self.assertTrue(inspect.isfunction(method), signature)
+                    self.assertEqual(method.__name__ + str(inspect.signature(method)), signature)
 
     def test_constants(self):
         for module_name, constants in CONSTANTS.items():

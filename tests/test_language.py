@@ -24,6 +24,12 @@ LIBRARY = {"heapq": {"heappush", "heappop", "heapify", "heapreplace", "heappushp
            "itertools": {"product", "combinations", "permutations", "chain", "accumulate",
                          "pairwise", "islice", "zip_longest"},
            "collections": {"defaultdict", "deque"}}
+METHODS = set("""append clear copy count endswith extend find get index insert isalnum isalpha
+    isdigit islower isspace isupper items join keys ljust lower lstrip partition pop remove replace
+    reverse rfind rjust rpartition rsplit rstrip setdefault split splitlines startswith strip update
+    upper values zfill bit_length isascii isdecimal isnumeric removeprefix removesuffix""".split())
+BARRED_ATTRIBUTES = set("""items keys values pop update append clear extend insert remove reverse
+    setdefault sort args encode decode hex fromhex format format_map mro""".split())
 BARRED_NODES = (ast.AsyncFunctionDef, ast.AsyncFor, ast.AsyncWith, ast.Await, ast.Div,
                 ast.MatMult, ast.Import, ast.TryStar)
 MODULE_LEVEL = (ast.ImportFrom, ast.FunctionDef, ast.ClassDef, ast.Assign, ast.Expr)
@@ -143,6 +149,43 @@ class NamesTest(unittest.TestCase):
         for path, tree in TREES.items():
             code = ast.unparse(WithoutDocstrings().visit(ast.parse(ast.unparse(tree))))
             self.assertIsNone(BARRED_WORDS.search(code), path.name)
+
+
+class ClassesTest(unittest.TestCase):
+
+    def setUp(self):
+        self.methods = {part.name for _, owner in nodes(ast.ClassDef) for part in owner.body
+                        if isinstance(part, ast.FunctionDef)}
+        self.attributes = {node.attr for _, node in nodes(ast.Attribute) if isinstance(node.ctx, ast.Store)}
+
+    def test_a_class_has_methods_alone_and_each_once(self):
+        for place, owner in nodes(ast.ClassDef):
+            parts = [part for part in owner.body if not isinstance(part, ast.Expr)]
+            self.assertTrue(all(isinstance(part, ast.FunctionDef) for part in parts), place)
+            names = [part.name for part in parts]
+            self.assertEqual(len(names), len(set(names)), place)
+            for name in names:
+                self.assertTrue(name == "__init__" or not name.startswith("__"), place)
+
+    def test_no_name_is_a_method_and_an_attribute(self):
+        self.assertFalse(self.methods & self.attributes)
+        self.assertFalse(self.attributes & (BARRED_ATTRIBUTES | set(dir(builtins))))
+
+    def test_only_own_methods_and_the_listed_ones_are_called(self):
+        called = [(place, node.func) for place, node in nodes(ast.Call) if isinstance(node.func, ast.Attribute)]
+        for place, function in called:
+            self.assertIn(function.attr, METHODS | self.methods, place)
+        functions = {id(function) for _, function in called}
+        for place, node in nodes(ast.Attribute):
+            if id(node) not in functions:
+                self.assertIn(node.attr, self.attributes | self.methods, place)
+
+    def test_sets_stand_only_where_they_are_measured_or_sorted(self):
+        allowed = {id(node.args[0]) for _, node in nodes(ast.Call)
+                   if isinstance(node.func, ast.Name) and node.func.id in ("len", "sorted") and node.args}
+        for place, node in nodes((ast.Set, ast.SetComp, ast.Call)):
+            if not isinstance(node, ast.Call) or isinstance(node.func, ast.Name) and node.func.id == "set":
+                self.assertIn(id(node), allowed, place)
 
 
 class WithoutDocstrings(ast.NodeTransformer):
