@@ -53,6 +53,15 @@ FUNCTIONS = {
              "told(crowd, further)", "keeps(crowd, own, further, wishes)",
              "first_reason(crowd, own, further, wishes)",
              "best_option(crowd, own, options, wishes)"],
+    "sharing": ["value_at(q, polynomial, x)", "shares_of(q, polynomial, places)",
+                "polynomial_of(q, points)", "secret_of(q, points)",
+                "explain_shares(q, points, secret)"],
+    "juries": ["check_jury(jury)", "seats_of(jury, juror)",
+               "deal(setup, jury, polynomial, blinds)", "fits(setup, commitments, paper)",
+               "open_secret(setup, jury, commitments, votes)",
+               "explain_dealing(setup, commitments, papers, secret)"],
+    "lines": ["read_command(line)"],
+    "town": ["run_script(script)"],
 }
 
 # The classes with what they are made of, and the methods that they have.
@@ -77,6 +86,9 @@ CONSTANTS = {
     "questions": {"MAX_QUESTION": 300, "MAX_LEVELS": 20},
     "purse": {"EPOCHS": 3, "MAX_HELD": 12},
     "crowds": {"MAX_MEMBERS": 10, "MAX_USES": 8, "MAX_TICKETS": 6, "EPOCHS": 3},
+    "sharing": {"MAX_POINTS": 10},
+    "juries": {"MAX_JURORS": 6, "MAX_WEIGHT": 5},
+    "town": {"TOWN_ORDER": 113, "TOWN_SEED": 3},
 }
 
 
