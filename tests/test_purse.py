@@ -182,6 +182,17 @@ class PurseTest(ErrorCase):
         self.assertEqual([taken(purse, 0), taken(purse, 2), taken(purse, 0), taken(purse, 0), taken(purse, 2)],
                          [8, 9, 3, 5, 1])
 
+    def test_of_several_with_the_least_number_the_one_that_was_put_first(self):
+        # `put` and `load_purse` make no such purse, so its rows are kept as they are.
+        counter = Register()
+        purse = Purse(counter)
+        for number, n in ((7, 1), (4, 2), (9, 3), (4, 4), (7, 5)):
+            purse.keep((0, number, *ticket_at(n)))
+        self.assertEqual([purse.left(0), taken(purse, 0), counter.count(0)], [5, 2, 5])
+        self.assertEqual([purse.left(0), taken(purse, 0), counter.count(0)], [3, 1, 8])
+        self.assertEqual([purse.left(0), taken(purse, 0), counter.count(0)], [1, 3, 10])
+        self.assertEqual(taken(purse, 0), "Missing")
+
     def test_take_raises_the_count_to_the_number_plus_1(self):
         counter = Register()
         purse = load_purse(counter, purse_with(Register(), (2, 1), (2, 2)).image()
